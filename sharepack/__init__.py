@@ -1,0 +1,1 @@
+"""Sharepack: texts packed by shares that are learnt block by block."""
