@@ -29,7 +29,7 @@ def sources():
 class GroundTest(unittest.TestCase):
     def test_the_package_is_found(self):
         names = [name for name, _ in sources()]
-        for name in ("__init__.py", "errors.py", "shares.py", "pairing.py"):
+        for name in ("__init__.py", "errors.py", "shares.py", "pairing.py", "books.py", "packing.py", "telling.py"):
             self.assertIn(name, names)
 
     def test_no_clock_chance_or_files_are_imported(self):

@@ -5,34 +5,12 @@ from itertools import product
 
 from sharepack import pairing as module
 from sharepack.pairing import codes, cost, pairs
-from tests.helper import GREAT, TAKEN_SHARES, WRONG_SHARES, PackCase
+from tests.helper import GREAT, TAKEN_SHARES, WRONG_SHARES, PackCase, pairs_by_words, ways_by_words
 
 SMALL = [list(shares) for many in range(1, 6) for shares in product([1, 2, 3, 4], repeat=many)]
 
 # Shares that grow so fast that each pair takes the one before it: the codes get as long as they can.
 STEEP = [2 ** at for at in range(40)]
-
-
-def pairs_by_words(shares):
-    """The pairs, made as the document tells it, by looking through all nodes each time."""
-    weights = dict(enumerate(shares))
-    made = []
-    while len(weights) > 1:
-        first, other = sorted(weights, key=lambda number: (weights[number], number))[:2]
-        weights[len(shares) + len(made)] = weights.pop(first) + weights.pop(other)
-        made.append((first, other))
-    return made
-
-
-def way_by_words(shares, sign):
-    """The way from the top to a sign's node, gone backwards from the node."""
-    made = pairs_by_words(shares)
-    node, way = sign, ""
-    for at, (first, other) in enumerate(made):
-        if node in (first, other):
-            way = ("0" if node == first else "1") + way
-            node = len(shares) + at
-    return way
 
 
 class PairsTest(PackCase):
@@ -127,8 +105,7 @@ class CodesTest(PackCase):
     def test_against_the_words_of_the_document(self):
         for shares in SMALL + TAKEN_SHARES + [STEEP]:
             with self.subTest(shares=shares):
-                expected = [way_by_words(shares, sign) for sign in range(len(shares))]
-                self.assertEqual(self.told(codes, shares), expected)
+                self.assertEqual(self.told(codes, shares), ways_by_words(shares))
 
     def test_no_code_begins_another_one(self):
         for shares in SMALL + TAKEN_SHARES + [STEEP]:
